@@ -1,0 +1,1 @@
+"""Tasks in turn: what is to be done with many tasks on one machine."""
