@@ -46,6 +46,22 @@ def ran(t, why, at=0, values=(), clock=()):
     return [3, 3, t, why, at] + with_lists(list(values) + [clock])
 
 
+def spawned(t, u, clock=()):
+    return [4, 2, t, u] + with_lists([clock])
+
+
+def state(t, clock=()):
+    return [5, 1, t] + with_lists([clock])
+
+
+def channel(c, clock=()):
+    return [6, 1, c] + with_lists([clock])
+
+
+def stuck(clock=()):
+    return [7, 0] + with_lists([clock])
+
+
 def over(t):
     return ran(t, 0)
 
@@ -91,6 +107,14 @@ def goes(t, steps=1, given=(), asked=0):
     return [asked, 0] + orders(*given) + [t, steps]
 
 
+def waiting(*tasks):
+    """What stuck answers where these wait: of each the task, 3, 4 or 5, whom or what it waits for, the ring."""
+    numbers = [0, len(tasks)]
+    for one in tasks:
+        numbers += one
+    return numbers
+
+
 def split(answered):
     parts = []
     place = 0
@@ -108,6 +132,14 @@ def line(*calls):
     for call in calls:
         numbers += call
     return numbers
+
+
+def channels(*rooms):
+    """Calls: task 1 makes these channels, and goes."""
+    calls = line(add(1), go())
+    for room in rooms:
+        calls = calls + at(1, 43, whole(room)) + go()
+    return calls
 
 
 def ask(*calls):

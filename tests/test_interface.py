@@ -1,14 +1,18 @@
 import unittest
 
 import turntasks.desk
-from tests.helper import add, ask, at, begin, done, ended, go, goes, hand, line, over, ran, split, the_channel, the_task
-from tests.helper import thrown, whole
+from tests.helper import (
+    add, ask, at, begin, channel, done, ended, go, goes, hand, line, over, ran, spawn, spawned, split, state, stuck,
+    the_channel, the_task, thrown, waiting, whole,
+)
 from turntasks.desk import answers
 
 MANY = line(begin(6, [1, 2]), add(1, [3]), add(2), go([4]), at(1, 43, whole(1), clock=[5]), go(),
             at(2, 44, the_channel(0), [7, 8]), go(), at(1, 44, the_channel(0), [9]), go(),
             at(2, 45, the_channel(0)), go(), at(2, 47, whole(5), clock=[10, 11]), go([12, 13]), go([14]),
-            ended(1, [6]), go([15]), at(2, 46, the_task(1)), go(), thrown(2, [0]), go(), add(-1), begin(0))
+            ended(1, [6]), go([15]), at(2, 46, the_task(1)), go(), thrown(2, [0]), go(), add(-1), begin(0),
+            add(3), go(), at(3, 41), spawned(3, 4, [16]), go(), at(3, 46, the_task(4)), go(),
+            at(4, 46, the_task(3)), stuck([17]), state(3, [18]), channel(0, [19]), channel(1), state(5), spawned(3, 4))
 
 
 class Told(unittest.TestCase):
@@ -22,6 +26,11 @@ class Told(unittest.TestCase):
         self.assertEqual(answers([1, 1, 4294967296, 1, 0]), [2, 0, -8])
         self.assertEqual(answers([2, 0, 1, 0]), [3, 0, 3, 0])
         self.assertEqual(answers([3, 3, 1, 0, 0, 1, 0]), [2, 0, -8])
+        self.assertEqual(answers([4, 2, 1, 2, 1, 1, 3]), [2, 0, -8])
+        self.assertEqual(answers([5, 1, 4294967296, 1, 0]), [2, 0, -8])
+        self.assertEqual(answers([6, 1, 0, 1, 0]), [2, 0, -4])
+        self.assertEqual(answers([6, 1, -1, 1, 2, 5, 6]), [2, 0, -8])
+        self.assertEqual(answers([7, 0, 1, 0]), [2, 0, 0])
 
     def test_calls_number_by_number(self):
         calls = [1, 1, 9, 1, 0,
@@ -34,6 +43,31 @@ class Told(unittest.TestCase):
                 3, 1, 0, 0,
                 4, 1, 2, 0, 106,
                 9, 1, 0, 1, 0, 9, 1, 0, 9, 1]
+        self.assertEqual(answers(calls), told)
+
+    def test_spawned_state_channel_and_stuck_number_by_number(self):
+        calls = [1, 1, 9, 1, 0,
+                 2, 0, 1, 0,
+                 3, 3, 9, 3, 41, 1, 0,
+                 4, 2, 9, 5, 1, 2, 70, 80,
+                 2, 0, 1, 0,
+                 3, 3, 9, 3, 43, 2, 2, 2, 4, 0,
+                 2, 0, 1, 0,
+                 3, 3, 5, 3, 45, 2, 2, 9, 0, 0,
+                 5, 1, 5, 1, 0,
+                 6, 1, 0, 1, 1, 44,
+                 7, 0, 1, 1, 33]
+        told = [2, 0, 0,
+                5, 0, 0, 0, 9, 1,
+                5, 0, 0, 1, 2, 9,
+                2, 0, 0,
+                5, 0, 0, 0, 9, 1,
+                8, 0, 0, 1, 0, 9, 2, 9, 0,
+                5, 0, 0, 0, 5, 1,
+                3, 0, 0, 0,
+                3, 0, 4, 0,
+                5, 0, 0, 4, 0, 1,
+                6, 0, 1, 5, 4, 0, 0]
         self.assertEqual(answers(calls), told)
 
     def test_lists_of_values_and_the_clocks(self):
@@ -73,7 +107,9 @@ class Told(unittest.TestCase):
             done(hand(2)), goes(1, 6), done(), goes(2, 6),
             done(hand(2, [7, 8]), hand(1)), goes(2, 6), done(asked=1), goes(1, 6, asked=1), [0, 1, 0],
             done(), goes(2, 6, given=[hand(2)], asked=1), done(hand(2, [6])), goes(2, 6), done(), [0, 3, 0],
-            [0, -8], [0, -8]])
+            [0, -8], [0, -8],
+            [0, 0], goes(3, 6), done(spawn(3)), [0, 0], goes(3, 6), done(), goes(4, 6),
+            done(), waiting([3, 5, 4, 1], [4, 5, 3, 1]), [0, 5, 4], [0, 1, 1, 0, 0], [0, -4], [0, -8], [0, -8]])
 
 
 class KeptApart(unittest.TestCase):

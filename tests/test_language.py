@@ -26,6 +26,13 @@ NOWHERE = re.compile(
     r"\b(type|typing|typing_extensions|enum|Enum|IntEnum|StrEnum|Flag|IntFlag|Generic|Protocol|ABC|ABCMeta|namedtuple|"
     r"NamedTuple|TypedDict|TYPE_CHECKING|abstractmethod)\b|dataclass|overload|contextmanager")
 
+NOT_NAMES = (
+    "register mro elements open input version_info with_traceback add_note attrgetter breakpoint builtins compile "
+    "copyright credits delattr dir eval exec exit gc getattr globals hasattr help id importlib license locals "
+    "methodcaller os quit setattr super type vars sys chr format format_map").split()
+WALKED_AT_ONCE = "zip enumerate reversed range items keys values".split()
+WALKERS = "list tuple dict sorted sum any all enumerate zip min max".split()
+
 
 def trees():
     return [(path, ast.parse(path.read_text(encoding="utf-8"))) for path in FILES]
@@ -120,6 +127,94 @@ class Language(unittest.TestCase):
         for path, node in nodes(ast.Call):
             if isinstance(node.func, ast.Attribute):
                 self.assertIn(node.func.attr, list(own) + METHODS, (path, node.lineno))
+
+    def test_the_top_of_a_file_has_defs_and_plain_values(self):
+        for path, tree in trees():
+            self.assertIsNotNone(ast.get_docstring(tree), path)
+            bound = [name for part in tree.body for name in names_bound(part)]
+            self.assertEqual(len(bound), len(set(bound)), path)
+            for part in tree.body[1:]:
+                self.assertIsInstance(part, (ast.ImportFrom, ast.FunctionDef, ast.ClassDef, ast.Assign), path)
+                if isinstance(part, ast.Assign):
+                    self.assertIsInstance(ast.literal_eval(part.value), (int, str, tuple, type(None)), path)
+
+    def test_classes_hold_methods_alone(self):
+        for path, tree in trees():
+            inner = [node for part in tree.body for node in ast.walk(part)
+                     if isinstance(node, ast.ClassDef) and node is not part]
+            self.assertEqual(inner, [], path)
+        for path, node in nodes(ast.ClassDef):
+            self.assertLessEqual(len(node.bases), 1, path)
+            named = [part.name for part in node.body if isinstance(part, ast.FunctionDef)]
+            self.assertEqual(len(named), len(set(named)), path)
+            for part in node.body:
+                self.assertIsInstance(part, (ast.FunctionDef, ast.Pass), path)
+        for path, node in nodes(ast.FunctionDef):
+            self.assertTrue(node.name == "__init__" or not node.name.startswith("_"), path)
+            if node.name == "__init__":
+                self.assertEqual([part for part in ast.walk(node) if isinstance(part, ast.Return)], [], path)
+
+    def test_parameters_are_plain(self):
+        for path, node in nodes(ast.arguments):
+            self.assertEqual((node.vararg, node.kwarg, node.kwonlyargs, node.posonlyargs), (None, None, [], []), path)
+            for default in node.defaults:
+                self.assertIsInstance(default, ast.Constant, path)
+        for path, node in nodes(ast.arg):
+            self.assertIsNone(node.annotation, path)
+        for path, node in nodes(ast.FunctionDef):
+            self.assertIsNone(node.returns, path)
+
+    def test_names_that_are_not_used(self):
+        for path, node in nodes(ast.Name):
+            self.assertNotIn(node.id, NOT_NAMES, (path, node.lineno))
+        for path, node in nodes(ast.Attribute):
+            self.assertNotIn(node.attr, NOT_NAMES, (path, node.lineno))
+            self.assertRegex(node.attr, r"\A[A-Za-z]\w*\Z", (path, node.lineno))
+
+    def test_is_stands_beside_none_true_and_false_alone(self):
+        for path, node in nodes(ast.Compare):
+            if any(isinstance(sign, (ast.Is, ast.IsNot)) for sign in node.ops):
+                self.assertIn(ast.unparse(node.comparators[0]), ("None", "True", "False"), (path, node.lineno))
+
+    def test_numbers_and_texts(self):
+        for path, node in nodes(ast.BinOp):
+            self.assertNotIsInstance(node.op, ast.Pow, (path, node.lineno))
+        for path, node in nodes(ast.Constant):
+            if isinstance(node.value, str):
+                self.assertNotIn("%", node.value, (path, node.lineno))
+        for path, node in nodes(ast.FormattedValue):
+            self.assertIsInstance(node.value, ast.Name, (path, node.lineno))
+            self.assertIsNone(node.format_spec, (path, node.lineno))
+
+    def test_comprehensions_have_one_walk(self):
+        for path, node in nodes(ast.ListComp):
+            self.assertEqual(len(node.generators), 1, (path, node.lineno))
+            self.assertLessEqual(len(node.generators[0].ifs), 1, (path, node.lineno))
+
+    def test_what_is_walked_at_once_is_not_kept(self):
+        for path, tree in trees():
+            walked = [node.iter for node in ast.walk(tree) if isinstance(node, (ast.For, ast.comprehension))]
+            walked += [node.args[0] for node in ast.walk(tree)
+                       if isinstance(node, ast.Call) and called(node) in WALKERS and node.args]
+            for node in ast.walk(tree):
+                if isinstance(node, ast.Call) and called(node) in WALKED_AT_ONCE:
+                    self.assertIn(node, walked, (path, node.lineno))
+
+    def test_methods_and_pythons_own_are_called_where_they_stand(self):
+        for path, tree in trees():
+            heads = [node.func for node in ast.walk(tree) if isinstance(node, ast.Call)]
+            bases = [base for node in ast.walk(tree) if isinstance(node, ast.ClassDef) for base in node.bases]
+            methods = {part.name for node in ast.walk(tree) if isinstance(node, ast.ClassDef) for part in node.body
+                       if isinstance(part, ast.FunctionDef)}
+            for node in ast.walk(tree):
+                if isinstance(node, ast.Attribute) and (node.attr in METHODS or node.attr in methods):
+                    self.assertIn(node, heads, (path, node.lineno))
+                if isinstance(node, ast.Name) and node.id in BUILTINS:
+                    self.assertIn(node, heads + bases, (path, node.lineno))
+
+
+def called(node):
+    return node.func.id if isinstance(node.func, ast.Name) else getattr(node.func, "attr", None)
 
 
 def names_bound(part):

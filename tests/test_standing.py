@@ -1,17 +1,9 @@
 import unittest
 
 from tests.helper import (
-    HIGHEST, LAST_TIME, LOWEST, NOTHING, SELF, WRONG, add, at, done, ended, go, goes, hand, last, line, over,
-    spawn, tail, the_channel, the_task, thrown, toss, whole,
+    HIGHEST, LAST_TIME, LOWEST, NOTHING, SELF, WRONG, add, at, channels, done, ended, go, goes, hand, last, line,
+    over, spawn, tail, the_channel, the_task, thrown, toss, whole,
 )
-
-
-def channels(*rooms):
-    """Calls: task 1 makes these channels, and goes."""
-    calls = line(add(1), go())
-    for room in rooms:
-        calls = calls + at(1, 43, whole(room)) + go()
-    return calls
 
 
 class At41And42(unittest.TestCase):

@@ -1,8 +1,9 @@
 """The calls, each with what it answers: a number, and behind it what is told."""
 
 from turntasks.forms import is_value, nothing
-from turntasks.held import ENDED, GOING, THROWN
+from turntasks.held import ENDED, GOING, SPAWNING, THROWN
 from turntasks.orders import hand, tell_orders
+from turntasks.rings import is_in_ring
 from turntasks.standing import NEVER, stand, tell_end, values_wanted
 
 MOST_STEPS = 100000
@@ -12,6 +13,7 @@ HIGHEST_TASK = 4294967295
 DONE = 0
 NOT_AS_TOLD = -8
 KNOWN = -3
+NO_CHANNEL = -4
 TOO_MANY = -5
 
 GOES = 0
@@ -25,6 +27,8 @@ BY_ITSELF = 1
 BY_THROW = 2
 STANDS = 3
 
+NO_THREAD = -1
+
 
 def answer_begin(held, steps):
     if not 1 <= steps <= MOST_STEPS:
@@ -33,13 +37,20 @@ def answer_begin(held, steps):
     return [DONE]
 
 
-def answer_add(held, number):
+def refusal_of_new(held, number):
     if not 0 <= number <= HIGHEST_TASK:
-        return [NOT_AS_TOLD]
+        return NOT_AS_TOLD
     if number in held.tasks:
-        return [KNOWN]
+        return KNOWN
     if held.is_full():
-        return [TOO_MANY]
+        return TOO_MANY
+    return DONE
+
+
+def answer_add(held, number):
+    refused = refusal_of_new(held, number)
+    if refused != DONE:
+        return [refused]
     held.add_task(number)
     return [DONE]
 
@@ -108,3 +119,43 @@ def answer_ran(held, number, why, at, values, clock):
     else:
         stand(held, orders, task, at, values, clock)
     return [DONE] + tell_orders(orders)
+
+
+def answer_spawned(held, number, new):
+    task = held.tasks.get(number)
+    if task is None or task.state != SPAWNING:
+        return [NOT_AS_TOLD]
+    if new == NO_THREAD:
+        held.make_ready(task)
+        return [DONE]
+    refused = refusal_of_new(held, new)
+    if refused != DONE:
+        return [refused]
+    # The one that spawns stands ahead of the one that it spawned.
+    held.make_ready(task)
+    held.add_task(new)
+    return [DONE]
+
+
+def answer_state(held, number):
+    task = held.tasks.get(number)
+    if task is None:
+        return [NOT_AS_TOLD]
+    return [task.state, task.target]
+
+
+def answer_channel(held, number):
+    if number < 0:
+        return [NOT_AS_TOLD]
+    if number >= len(held.channels):
+        return [NO_CHANNEL]
+    channel = held.channels[number]
+    return [len(channel.kept), channel.room, len(channel.senders), len(channel.receivers)]
+
+
+def answer_stuck(held):
+    tasks = held.stuck_tasks()
+    told = [len(tasks)]
+    for task in tasks:
+        told.extend([task.number, task.state, task.target, 1 if is_in_ring(held, task) else 0])
+    return told

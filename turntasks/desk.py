@@ -1,6 +1,7 @@
 """The desk: a list of calls is read, and their answers are told."""
 
-from turntasks.calls import answer_add, answer_begin, answer_next, answer_ran
+from turntasks.calls import answer_add, answer_begin, answer_channel, answer_next, answer_ran
+from turntasks.calls import answer_spawned, answer_state, answer_stuck
 from turntasks.held import Held
 from turntasks.times import Clock
 
@@ -8,6 +9,10 @@ BEGIN = 0
 ADD = 1
 NEXT = 2
 RAN = 3
+SPAWNED = 4
+STATE = 5
+CHANNEL = 6
+STUCK = 7
 
 
 class NoSuchCall(ValueError):
@@ -49,6 +54,14 @@ def answer_call(held, call, numbers, values, clock):
         return answer_next(held, clock)
     if call == RAN:
         return answer_ran(held, numbers[0], numbers[1], numbers[2], values, clock)
+    if call == SPAWNED:
+        return answer_spawned(held, numbers[0], numbers[1])
+    if call == STATE:
+        return answer_state(held, numbers[0])
+    if call == CHANNEL:
+        return answer_channel(held, numbers[0])
+    if call == STUCK:
+        return answer_stuck(held)
     raise NoSuchCall(f"no call {call}")
 
 

@@ -34,6 +34,9 @@ class Task:
     def has_ended(self):
         return self.state == ENDED or self.state == THROWN
 
+    def needs_another(self):
+        return self.state == SENDING or self.state == RECEIVING or self.state == AWAITING_END
+
 
 class Channel:
     def __init__(self, room):
@@ -83,6 +86,10 @@ class Held:
     def sleepers(self):
         pairs = [(task.target, task.number) for task in self.tasks.values() if task.state == AWAITING_TIME]
         return [self.tasks[pair[1]] for pair in sorted(pairs)]
+
+    def stuck_tasks(self):
+        numbers = [task.number for task in self.tasks.values() if task.needs_another()]
+        return [self.tasks[number] for number in sorted(numbers)]
 
     def channel_of(self, value):
         if is_of_kind(value, CHANNEL) and 0 <= value[1] < len(self.channels):
